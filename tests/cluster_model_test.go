@@ -333,8 +333,14 @@ func wantRefused(t *testing.T, what string, got impl.ClusterOut, code int64) {
 // wantBecomes: no fault, this right cluster, and no name.
 func wantBecomes(t *testing.T, what string, got impl.ClusterOut, want impl.Cluster) {
 	t.Helper()
-	if got.Code != impl.OK || got.Name != "" || !sameCluster(got.Cluster, want) {
-		t.Errorf("%s: got code %d, name %q and %s, want %s", what, got.Code, got.Name, shown(got.Cluster), shown(want))
+	wantNamed(t, what, got, want, "")
+}
+
+// wantNamed: no fault, this right cluster, and this name.
+func wantNamed(t *testing.T, what string, got impl.ClusterOut, want impl.Cluster, name string) {
+	t.Helper()
+	if got.Code != impl.OK || got.Name != name || !sameCluster(got.Cluster, want) {
+		t.Errorf("%s: got code %d, name %q and %s, want name %q and %s", what, got.Code, got.Name, shown(got.Cluster), name, shown(want))
 	}
 	if why := broken(got.Cluster); why != "" || !impl.ClusterRight(got.Cluster) {
 		t.Errorf("%s: got a cluster that is not right (%s): %s", what, why, shown(got.Cluster))
