@@ -32,15 +32,24 @@ func bindModel(c impl.Cluster, claim string) binding {
 	case k.Wait:
 		return binding{way: "waits", code: impl.ErrWait}
 	}
-	if best, found := bestModel(c, x); found {
-		return binding{way: "found", cluster: tied(c, claim, best), name: best}
-	}
-	return makeModel(c, x, k)
+	return bindInModel(c, x, "")
 }
 
-// bestModel: the name of the best disk for the claim, and whether there is one.
-func bestModel(c impl.Cluster, x impl.Claim) (string, bool) {
-	serve := slices.DeleteFunc(slices.Clone(c.Volumes), func(v impl.Volume) bool { return lacks(v, x, "") > 0 })
+// bindInModel: what binding the claim, which is there and not bound, in a zone (empty: any) ought to tell.
+func bindInModel(c impl.Cluster, x impl.Claim, zone string) binding {
+	if best, found := bestModel(c, x, zone); found {
+		return binding{way: "found", cluster: tied(c, x.Name, best), name: best}
+	}
+	k := viewOf(c).classes[x.Class]
+	if zone == "" {
+		zone = k.Zone
+	}
+	return makeModel(c, x, k, zone)
+}
+
+// bestModel: the name of the best disk for the claim in the zone, and whether there is one.
+func bestModel(c impl.Cluster, x impl.Claim, zone string) (string, bool) {
+	serve := slices.DeleteFunc(slices.Clone(c.Volumes), func(v impl.Volume) bool { return lacks(v, x, zone) > 0 })
 	if len(serve) == 0 {
 		return "", false
 	}
@@ -48,12 +57,14 @@ func bestModel(c impl.Cluster, x impl.Claim) (string, bool) {
 	return slices.MinFunc(serve, func(a impl.Volume, b impl.Volume) int { return int(a.Size - b.Size) }).Name, true
 }
 
-// makeModel: what is told if a disk is to be made.
-func makeModel(c impl.Cluster, x impl.Claim, k impl.Class) binding {
+// makeModel: what is told if a disk is to be made in the zone.
+func makeModel(c impl.Cluster, x impl.Claim, k impl.Class, zone string) binding {
 	name := "v_" + x.Name
 	switch {
-	case k.Zone == "":
+	case zone == "":
 		return binding{way: "no zone", code: impl.ErrNone}
+	case k.Zone != "" && k.Zone != zone:
+		return binding{way: "made elsewhere", code: impl.ErrNone}
 	case len(name) > 20:
 		return binding{way: "too long a name", code: impl.ErrNone}
 	case slices.Contains(namesOf(c.Volumes, volumeName), name):
@@ -62,7 +73,7 @@ func makeModel(c impl.Cluster, x impl.Claim, k impl.Class) binding {
 		return binding{way: "full", code: impl.ErrFull}
 	}
 	more := changedTo(c, func(c *impl.Cluster) {
-		v := impl.Volume{Name: name, Size: x.Size, Zone: k.Zone, Class: x.Class, Single: x.Single}
+		v := impl.Volume{Name: name, Size: x.Size, Zone: zone, Class: x.Class, Single: x.Single}
 		c.Volumes = sorted(append(c.Volumes, v), volumeName)
 	})
 	return binding{way: "made", cluster: tied(more, x.Name, name), name: name}
