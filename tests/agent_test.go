@@ -4,98 +4,134 @@ import (
 	"fmt"
 	"math"
 	"slices"
+	"strings"
 	"testing"
 
 	"loop.example/g00571/impl"
 )
 
-// theNode: the node of that name, to be changed.
-func theNode(c *impl.Cluster, name string) *impl.Node {
-	return &c.Nodes[slices.Index(namesOf(c.Nodes, nodeName), name)]
-}
-
-// agentWhy: why a call of a living node's name is refused, OK if it is not.
-func agentWhy(c impl.Cluster, node string) int64 {
-	n, there := byName(c.Nodes, nodeName)[node]
-	switch {
-	case len(node) > 8000:
-		return impl.ErrSize
-	case broken(c) != "":
-		return impl.ErrForm
-	case !there:
-		return impl.ErrNone
-	case n.Dead:
-		return impl.ErrState
-	}
-	return impl.OK
-}
-
-// stepMove: AgentStep, by the words of chapter 10 alone.
-func stepMove(node string) move {
-	return move{"AgentStep " + node[:min(len(node), 24)], func(c impl.Cluster) impl.ClusterOut { return impl.AgentStep(c, node) },
-		func(c impl.Cluster) (impl.Cluster, int64) {
-			if code := agentWhy(c, node); code != impl.OK {
-				return impl.Cluster{}, code
-			}
-			return changedTo(c, func(c *impl.Cluster) { stepModel(c, theNode(c, node)) }), impl.OK
-		}}
-}
-
-// stepModel does what a step of the node's agent does.
-func stepModel(c *impl.Cluster, n *impl.Node) {
-	w := viewOf(*c)
-	live := n.Until > c.Now
-	n.Until, n.Mounts = min(c.Now+10, 1000000), nil
-	for _, p := range c.Pods {
-		for _, claim := range p.Claims {
-			v := w.volumes[w.claims[claim].Volume]
-			if live && p.Node == n.Name && slices.Contains(v.On, n.Name) && !slices.Contains(n.Mounts, v.Name) {
-				n.Mounts = append(n.Mounts, v.Name)
-			}
-		}
-	}
-	slices.Sort(n.Mounts)
-	for i, p := range c.Pods {
-		if p.Node != n.Name {
-			continue
-		}
-		c.Pods[i].Phase = impl.PhPlaced
-		if live && each(p.Claims, func(claim string) bool { return slices.Contains(n.Mounts, w.claims[claim].Volume) }) {
-			c.Pods[i].Phase = impl.PhRunning
-		}
+func wantLive(t *testing.T, what string, c impl.Cluster, node string, want bool) {
+	t.Helper()
+	if got := impl.LeaseLive(c, node); got != want {
+		t.Errorf("%s: LeaseLive %.24q: got %v, want %v: %s", what, node, got, want, shown(c))
 	}
 }
 
-// killMove: Kill, by the words of chapter 10 alone.
-func killMove(node string) move {
-	return move{"Kill " + node[:min(len(node), 24)], func(c impl.Cluster) impl.ClusterOut { return impl.Kill(c, node) },
-		func(c impl.Cluster) (impl.Cluster, int64) {
-			if code := agentWhy(c, node); code != impl.OK {
-				return impl.Cluster{}, code
-			}
-			return changedTo(c, func(c *impl.Cluster) {
-				theNode(c, node).Dead = true
-				for i, p := range c.Pods {
-					if p.Node == node && p.Phase == impl.PhRunning {
-						c.Pods[i].Phase = impl.PhPlaced
-					}
-				}
-			}), impl.OK
-		}}
+func wantRuns(t *testing.T, what string, c impl.Cluster, node string, want ...string) {
+	t.Helper()
+	if got := impl.RunsOn(c, node); !slices.Equal(got, want) {
+		t.Errorf("%s: RunsOn %.24q: got %q, want %q: %s", what, node, got, want, shown(c))
+	}
 }
 
-// tickMove: Tick, by the words of chapter 10 alone.
-func tickMove(ticks int64) move {
-	return move{fmt.Sprintf("Tick %d", ticks), func(c impl.Cluster) impl.ClusterOut { return impl.Tick(c, ticks) },
-		func(c impl.Cluster) (impl.Cluster, int64) {
-			switch {
-			case broken(c) != "":
-				return impl.Cluster{}, impl.ErrForm
-			case ticks < 0 || ticks > 1000 || c.Now > 1000000-ticks:
-				return impl.Cluster{}, impl.ErrRange
+// wantStep: a step of the node's agent changes the cluster, which is right, so, and nothing else; the cluster then.
+func wantStep(t *testing.T, what string, c impl.Cluster, node string, change func(*impl.Cluster)) impl.Cluster {
+	t.Helper()
+	wantRight(t, what, c, true)
+	then := changedTo(c, change)
+	wantBecomes(t, what+": AgentStep "+node, impl.AgentStep(c, node), then)
+	return then
+}
+
+// runOn: one more pod, running on that node, with these claims, whose disks are to be mounted there.
+func runOn(c *impl.Cluster, name string, node string, claims ...string) {
+	putPod(c, impl.Pod{Name: name, Claims: claims, Node: node, Phase: impl.PhRunning})
+}
+
+// phases: these pods are in that phase.
+func phases(c *impl.Cluster, phase int64, pods ...string) {
+	for _, name := range pods {
+		thePod(c, name).Phase = phase
+	}
+}
+
+// fullCluster: a right cluster with pods of each phase, in which n1, whose lease goes up to then, has mounted what is wanted and what is not.
+func fullCluster(until int64) impl.Cluster {
+	return attachCluster(func(c *impl.Cluster) {
+		putBound(c, "a", disk("a", "east", true, "n1"))
+		putBound(c, "b", disk("b", "east", false, "n1", "n2"))
+		putVolume(c, disk("c", "east", true, "n1"))
+		putBound(c, "d", disk("d", "east", true))
+		c.Nodes[0].Until, c.Nodes[0].Mounts = until, []string{"da", "db", "dc"}
+		c.Nodes[1].Mounts = []string{"db"}
+		runOn(c, "p", "n1", "a", "b")
+		runOn(c, "q", "n1")
+		podOn(c, "r", "n1", "a")
+		podOn(c, "s", "n1", "b", "d")
+		runOn(c, "t", "n2", "b")
+		runOn(c, "u", "n3")
+		podOn(c, "v", "n2")
+		putPod(c, impl.Pod{Name: "w", Claims: []string{"a", "b"}})
+	})
+}
+
+// eightCluster: a right cluster in which n1 has eight disks on it, all of them wanted there, and none is mounted yet.
+func eightCluster() impl.Cluster {
+	return attachCluster(func(c *impl.Cluster) {
+		for _, name := range nameRow(8) {
+			putBound(c, name, impl.Volume{Name: name, Size: 1, Zone: "east", Class: "slow", Single: true, On: []string{"n1"}})
+		}
+		c.Nodes[0].Slots = 8
+		podOn(c, "p", "n1", nameRow(8)[:3]...)
+		podOn(c, "q", "n1", nameRow(8)[3:6]...)
+		podOn(c, "r", "n1", nameRow(8)[5:]...)
+	})
+}
+
+// Until one less than Now, just Now, and one more, of the living and of the dead.
+func TestLeaseLive(t *testing.T) {
+	for _, now := range []int64{0, 1, 2, 25, 999999, 1000000} {
+		for _, until := range []int64{0, 1, now - 11, now - 1, now, now + 1, now + 10, 1000000} {
+			if until < 0 || until > 1000000 {
+				continue
 			}
-			return changedTo(c, func(c *impl.Cluster) { c.Now += ticks }), impl.OK
-		}}
+			for _, dead := range []bool{false, true} {
+				c := attachCluster(func(c *impl.Cluster) {
+					c.Now = now
+					// The other nodes' leases say nothing of this one's.
+					c.Nodes[0].Until, c.Nodes[2].Until = 1000000-until, 1000000-until
+					c.Nodes[1].Until, c.Nodes[1].Dead = until, dead
+				})
+				wantRight(t, "a lease", c, true)
+				wantLive(t, fmt.Sprintf("Until %d, Now %d, dead %v", until, now, dead), c, "n2", until > now)
+			}
+		}
+	}
+	for _, c := range []impl.Cluster{workCluster(), restCluster(), placeCluster()} {
+		wantLive(t, "one that has a lease", c, "n1", true)
+		// Whatever else is wrong, no lease of such a cluster is live.
+		c.Classes = append(c.Classes, impl.Class{Name: "-"})
+		wantLive(t, "a wrong cluster", c, "n1", false)
+	}
+	wantLive(t, "never had one", impl.DeskCluster(), "n1", false)
+}
+
+func TestRunsOn(t *testing.T) {
+	c := fullCluster(30)
+	wantRuns(t, "pods of each phase", c, "n1", "p", "q")
+	wantRuns(t, "one of two", c, "n2", "t")
+	wantRuns(t, "one alone", c, "n3", "u")
+	wantRuns(t, "others' pods run", c, "n4")
+	wantRuns(t, "pods without a node", c, "")
+	wantRuns(t, "a pod's name", c, "p")
+	// It is the step that looks at the lease: what runs is told up to then.
+	wantRuns(t, "without a lease", fullCluster(25), "n1", "p", "q")
+	wantRuns(t, "without a lease at all", fullCluster(0), "n1", "p", "q")
+	wantRuns(t, "no pods", impl.DeskCluster(), "n1")
+	wantRuns(t, "a dead one, with a pod", workCluster(), "n3")
+	wantRuns(t, "all of one name", alikeCluster(), "a", "a")
+	all := attachCluster(func(c *impl.Cluster) {
+		for _, name := range []string{"p10", "p1", "p_", "pa", "b", "p2", longName, "z"} {
+			runOn(c, name, "n2")
+		}
+	})
+	wantRight(t, "all eight", all, true)
+	wantRuns(t, "all eight, rising", all, "n2", longName, "b", "p1", "p10", "p2", "p_", "pa", "z")
+	wantRuns(t, "all eight run elsewhere", all, "n1")
+	all.Pods[3].Phase = impl.PhPlaced
+	wantRuns(t, "all but one", all, "n2", longName, "b", "p1", "p2", "p_", "pa", "z")
+	all.Pods[3].Phase = 3
+	wantRuns(t, "a wrong cluster", all, "n2")
 }
 
 func TestTick(t *testing.T) {
@@ -114,14 +150,14 @@ func TestTick(t *testing.T) {
 	for _, c := range wrongClusters() {
 		wantRefused(t, "Tick in a wrong cluster", impl.Tick(c, 1), impl.ErrForm)
 		wantRefused(t, "Tick of too much in a wrong cluster", impl.Tick(c, -1), impl.ErrForm)
+		wantRefused(t, "Tick of too much in a wrong cluster", impl.Tick(c, 1001), impl.ErrForm)
 	}
 }
 
-// No such node, too long a text, a cluster that is not right, and a node that is dead.
+// No such node, too long a text ahead of all else, and a cluster that is not right ahead of the rest.
 func TestAgentsRefused(t *testing.T) {
-	calls := []func(impl.Cluster, string) impl.ClusterOut{impl.AgentStep, impl.Kill}
-	for _, call := range calls {
-		for _, c := range placingClusters() {
+	for _, call := range []func(impl.Cluster, string) impl.ClusterOut{impl.AgentStep, impl.Kill, impl.Wake} {
+		for _, c := range append(placingClusters(), fullCluster(30)) {
 			for _, name := range strangers() {
 				wantRefused(t, "no such node", call(c, name), impl.ErrNone)
 			}
@@ -130,16 +166,65 @@ func TestAgentsRefused(t *testing.T) {
 			}
 		}
 		for _, c := range wrongClusters() {
-			wantRefused(t, "a wrong cluster", call(c, "n1"), impl.ErrForm)
-			wantRefused(t, "a wrong cluster, no such node", call(c, "n9"), impl.ErrForm)
-			wantRefused(t, "a wrong cluster, too long a text", call(c, overlong()), impl.ErrSize)
+			for _, name := range append(strangers(), "n1", "n2", "n9") {
+				wantRefused(t, "a wrong cluster", call(c, name), impl.ErrForm)
+			}
+			for _, name := range overlongs() {
+				wantRefused(t, "a wrong cluster, too long a text", call(c, name), impl.ErrSize)
+			}
 		}
-		wantRefused(t, "a dead node", call(workCluster(), "n3"), impl.ErrState)
-		wantRefused(t, "a dead node", call(deadCluster(25, 40), "n1"), impl.ErrState)
+	}
+	for _, c := range []impl.Cluster{deadCluster(25, 40), deadCluster(25, 25), deadCluster(25, 0)} {
+		wantRefused(t, "a step of a dead node", impl.AgentStep(c, "n1"), impl.ErrState)
+		wantRefused(t, "the death of a dead node", impl.Kill(c, "n1"), impl.ErrState)
+	}
+	for _, until := range []int64{0, 24, 25, 26} {
+		wantRefused(t, "waking one that lives", impl.Wake(fullCluster(until), "n1"), impl.ErrState)
+	}
+	for _, name := range []string{"n1", "n2"} {
+		wantRefused(t, "waking one that lives", impl.Wake(workCluster(), name), impl.ErrState)
 	}
 }
 
+// The calls that tell no code, of nodes that are not there, of too long a text, and of a cluster that is not right.
+func TestAgentsToldNothing(t *testing.T) {
+	for _, c := range append(placingClusters(), fullCluster(30)) {
+		for _, name := range append(strangers(), overlongs()...) {
+			wantLive(t, "no such node", c, name, false)
+			wantRuns(t, "no such node", c, name)
+		}
+	}
+	for _, c := range wrongClusters() {
+		for _, name := range slices.Concat(strangers(), overlongs(), []string{"n1", "n2", "n9"}) {
+			wantLive(t, "a wrong cluster", c, name, false)
+			wantRuns(t, "a wrong cluster", c, name)
+		}
+	}
+	// One byte less than too long is looked for among the names, and is none; one more is not looked for.
+	long := strings.Repeat("n", impl.MaxBytes)
+	wantRefused(t, "as long as may be", impl.AgentStep(workCluster(), long), impl.ErrNone)
+	wantRefused(t, "one byte more", impl.AgentStep(workCluster(), long+"n"), impl.ErrSize)
+}
+
 func TestKill(t *testing.T) {
+	for _, until := range []int64{0, 25, 26} {
+		c := fullCluster(until)
+		// Its mounts stay, its lease too, and so do the pods of other nodes.
+		then := changedTo(c, func(c *impl.Cluster) {
+			c.Nodes[0].Dead = true
+			phases(c, impl.PhPlaced, "p", "q")
+		})
+		wantBecomes(t, "pods of each phase", impl.Kill(c, "n1"), then)
+		wantRefused(t, "again", impl.Kill(then, "n1"), impl.ErrState)
+		wantRefused(t, "a step then", impl.AgentStep(then, "n1"), impl.ErrState)
+		wantLive(t, "its lease goes on", then, "n1", until > 25)
+		wantRuns(t, "it is dead", then, "n1")
+		wantRuns(t, "another one is dead", then, "n2", "t")
+		wantBecomes(t, "one of two", impl.Kill(then, "n2"), changedTo(then, func(c *impl.Cluster) {
+			c.Nodes[1].Dead = true
+			phases(c, impl.PhPlaced, "t")
+		}))
+	}
 	c := workCluster()
 	wantBecomes(t, "Kill n1", impl.Kill(c, "n1"), changedTo(c, func(c *impl.Cluster) {
 		c.Nodes[0].Dead, c.Pods[0].Phase = true, impl.PhPlaced
@@ -147,161 +232,244 @@ func TestKill(t *testing.T) {
 	wantBecomes(t, "Kill n2", impl.Kill(c, "n2"), changedTo(c, func(c *impl.Cluster) {
 		c.Nodes[1].Dead, c.Pods[2].Phase = true, impl.PhPlaced
 	}))
-	wantBecomes(t, "Kill of one without pods", impl.Kill(impl.DeskCluster(), "n2"), changedTo(impl.DeskCluster(), func(c *impl.Cluster) {
+	wantBecomes(t, "one without pods", impl.Kill(impl.DeskCluster(), "n2"), changedTo(impl.DeskCluster(), func(c *impl.Cluster) {
 		c.Nodes[1].Dead = true
 	}))
-	wantRefused(t, "Kill again", impl.Kill(impl.Kill(c, "n1").Cluster, "n1"), impl.ErrState)
+	wantBecomes(t, "pods elsewhere alone", impl.Kill(fullCluster(26), "n4"), changedTo(fullCluster(26), func(c *impl.Cluster) {
+		c.Nodes[3].Dead = true
+	}))
 }
 
-func TestAgentStep(t *testing.T) {
-	if impl.Lease != 10 {
-		t.Errorf("Lease: got %d, want 10", impl.Lease)
+func TestWake(t *testing.T) {
+	for _, until := range []int64{0, 24, 25, 26, 1000000} {
+		dead := impl.Kill(fullCluster(until), "n1").Cluster
+		// Even if its lease went on, nothing runs there, a pod without claims neither; its disks are on it still.
+		then := changedTo(dead, func(c *impl.Cluster) {
+			c.Nodes[0].Dead, c.Nodes[0].Until, c.Nodes[0].Mounts = false, 0, nil
+		})
+		wantBecomes(t, fmt.Sprintf("Until %d", until), impl.Wake(dead, "n1"), then)
+		wantRefused(t, "again", impl.Wake(then, "n1"), impl.ErrState)
+		wantLive(t, "awake", then, "n1", false)
+		wantRuns(t, "awake", then, "n1")
+		wantRuns(t, "of another one", then, "n2", "t")
+		then = wantStep(t, "awake", then, "n1", func(c *impl.Cluster) { c.Nodes[0].Until = 35 })
+		wantStep(t, "with a lease", then, "n1", func(c *impl.Cluster) {
+			c.Nodes[0].Mounts = []string{"da", "db"}
+			phases(c, impl.PhRunning, "p", "q", "r")
+		})
 	}
-	c := workCluster()
-	wantBecomes(t, "with a live lease", impl.AgentStep(c, "n1"), changedTo(c, func(c *impl.Cluster) {
-		c.Nodes[0].Until, c.Pods[1].Phase = 35, impl.PhRunning
+	wantBecomes(t, "mounted, on none", impl.Wake(workCluster(), "n3"), changedTo(workCluster(), func(c *impl.Cluster) {
+		c.Nodes[2].Dead, c.Nodes[2].Until, c.Nodes[2].Mounts = false, 0, nil
 	}))
-	wantBecomes(t, "without one", impl.AgentStep(c, "n2"), changedTo(c, func(c *impl.Cluster) {
+	wantBecomes(t, "without mounts", impl.Wake(restCluster(), "n2"), changedTo(restCluster(), func(c *impl.Cluster) {
+		c.Nodes[1].Dead, c.Nodes[1].Until = false, 0
+	}))
+	desk := impl.DeskCluster()
+	wantBecomes(t, "without anything", impl.Wake(impl.Kill(desk, "n1").Cluster, "n1"), desk)
+	// A single disk that was mounted on it, too, is with the one that has it since.
+	c := attachCluster(func(c *impl.Cluster) {
+		putBound(c, "a", disk("a", "east", true, "n2"))
+		kill(c, "n1", 40)
+		c.Nodes[0].Mounts, c.Nodes[1].Mounts = []string{"da"}, []string{"da"}
+		runOn(c, "p", "n2", "a")
+	})
+	wantBecomes(t, "mounted elsewhere", impl.Wake(c, "n1"), changedTo(c, func(c *impl.Cluster) {
+		c.Nodes[0].Dead, c.Nodes[0].Until, c.Nodes[0].Mounts = false, 0, nil
+	}))
+}
+
+// Promise 12: without a live lease all mounts go, and nothing runs, whatever is wanted; the step after it mounts.
+func TestStepWithoutLease(t *testing.T) {
+	for _, until := range []int64{0, 1, 24, 25} {
+		c := fullCluster(until)
+		wantLive(t, "at first", c, "n1", false)
+		then := wantStep(t, "without a lease", c, "n1", func(c *impl.Cluster) {
+			c.Nodes[0].Mounts, c.Nodes[0].Until = nil, 35
+			phases(c, impl.PhPlaced, "p", "q")
+		})
+		wantRuns(t, "a step without a lease", then, "n1")
+		wantRuns(t, "of another one", then, "n2", "t")
+		wantLive(t, "it has one now", then, "n1", true)
+		wantStep(t, "with one", then, "n1", func(c *impl.Cluster) {
+			c.Nodes[0].Mounts = []string{"da", "db"}
+			phases(c, impl.PhRunning, "p", "q", "r")
+		})
+	}
+	wantStep(t, "nothing there", impl.DeskCluster(), "n2", func(c *impl.Cluster) { c.Nodes[1].Until = 10 })
+	wantStep(t, "the other one of two", workCluster(), "n2", func(c *impl.Cluster) {
 		c.Nodes[1].Until, c.Nodes[1].Mounts, c.Pods[2].Phase = 35, nil, impl.PhPlaced
-	}))
-	// Until just Now is no live lease, and one more is.
-	for until := int64(24); until <= 26; until++ {
-		c.Nodes[0].Until = until
-		stepMove("n1").check(t, c)
-		got := impl.AgentStep(c, "n1").Cluster
-		if live := len(got.Nodes[0].Mounts) == 2 && got.Pods[0].Phase == impl.PhRunning; live != (until == 26) {
-			t.Errorf("Until %d at 25: got %s", until, shown(got))
-		}
+	})
+	bare := attachCluster(func(c *impl.Cluster) {
+		c.Nodes[0].Until = 25
+		podOn(c, "p", "n1")
+		runOn(c, "q", "n1")
+	})
+	wantStep(t, "pods without claims", bare, "n1", func(c *impl.Cluster) {
+		c.Nodes[0].Until = 35
+		phases(c, impl.PhPlaced, "q")
+	})
+	wantStep(t, "of another node", bare, "n2", func(c *impl.Cluster) { c.Nodes[1].Until = 35 })
+}
+
+// With a live lease: what is not wanted goes, what is wanted and there is mounted, and what has all its disks runs.
+func TestStepWithLease(t *testing.T) {
+	for _, until := range []int64{26, 30, 35, 36, 1000000} {
+		wantStep(t, fmt.Sprintf("Until %d", until), fullCluster(until), "n1", func(c *impl.Cluster) {
+			// A lease that went on for longer ends sooner, too.
+			c.Nodes[0].Mounts, c.Nodes[0].Until = []string{"da", "db"}, 35
+			phases(c, impl.PhRunning, "r")
+		})
 	}
-	for _, now := range []int64{0, 999989, 999990, 999991, 1000000} {
-		c.Now = now
-		if got, want := impl.AgentStep(c, "n1").Cluster.Nodes[0].Until, min(now+10, 1000000); got != want {
-			t.Errorf("AgentStep at %d: Until %d, want %d", now, got, want)
-		}
-	}
-	// What nobody wants goes, what is wanted and not there is waited for, and a pod without claims needs a lease alone.
-	c = claiming([]string{"a", "b"}, func(c *impl.Cluster) {
+	c := attachCluster(func(c *impl.Cluster) {
 		putBound(c, "a", disk("a", "east", true, "n1"))
 		putBound(c, "b", disk("b", "east", true))
-		putVolume(c, disk("c", "east", true, "n1"))
-		putPod(c, impl.Pod{Name: "q", Node: "n1", Phase: impl.PhPlaced})
-		putPod(c, impl.Pod{Name: "r", Claims: []string{"a"}, Node: "n1", Phase: impl.PhPlaced})
-		putOn(c, "p", "n1")
-		c.Nodes[0].Mounts = []string{"dc"}
+		putBound(c, "c", disk("c", "east", false, "n2"))
+		putVolume(c, disk("d", "east", true, "n1"))
+		c.Nodes[0].Mounts = []string{"dd"}
+		podOn(c, "p", "n1", "a")
+		podOn(c, "q", "n1", "a", "b")
+		podOn(c, "r", "n1", "c")
+		podOn(c, "s", "n1")
+		podOn(c, "t", "n2", "c")
 	})
-	wantBecomes(t, "some are there", impl.AgentStep(c, "n1"), changedTo(c, func(c *impl.Cluster) {
+	c = wantStep(t, "one is there, one nowhere, one elsewhere", c, "n1", func(c *impl.Cluster) {
 		c.Nodes[0].Mounts, c.Nodes[0].Until = []string{"da"}, 35
-		thePod(c, "q").Phase, thePod(c, "r").Phase = impl.PhRunning, impl.PhRunning
-	}))
-	c.Volumes[1].On = []string{"n1"}
-	wantBecomes(t, "all are there", impl.AgentStep(c, "n1"), changedTo(c, func(c *impl.Cluster) {
-		c.Nodes[0].Mounts, c.Nodes[0].Until = []string{"da", "db"}, 35
-		for i := range c.Pods {
-			c.Pods[i].Phase = impl.PhRunning
-		}
-	}))
+		phases(c, impl.PhRunning, "p", "s")
+	})
+	wantStep(t, "it is at rest", c, "n1", nothingMore)
+	theVolume(&c, "dc").On = []string{"n1", "n2"}
+	c = wantStep(t, "one that many have is on both", c, "n1", func(c *impl.Cluster) {
+		c.Nodes[0].Mounts = []string{"da", "dc"}
+		phases(c, impl.PhRunning, "r")
+	})
+	theVolume(&c, "dd").On, theVolume(&c, "db").On = nil, []string{"n1"}
+	c = wantStep(t, "all are there", c, "n1", func(c *impl.Cluster) {
+		c.Nodes[0].Mounts = []string{"da", "db", "dc"}
+		phases(c, impl.PhRunning, "q")
+	})
+	c = wantStep(t, "the other one", c, "n2", func(c *impl.Cluster) {
+		c.Nodes[1].Mounts, c.Nodes[1].Until = []string{"dc"}, 35
+		phases(c, impl.PhRunning, "t")
+	})
+	// Pods that go take their wishes with them, but not those of others.
+	c = impl.DropPod(impl.DropPod(c, "q").Cluster, "r").Cluster
+	wantStep(t, "some are gone", c, "n1", func(c *impl.Cluster) { c.Nodes[0].Mounts = []string{"da"} })
+	wantStep(t, "the other one is as it was", c, "n2", nothingMore)
 }
 
-// attach: mostly, a disk that a pod waits for is put on its node, or one is taken off that no node has mounted.
-func (d *dice) attach(c *impl.Cluster) {
-	w := viewOf(*c)
-	pick(d, c.Pods, func(p *impl.Pod) {
-		for _, claim := range p.Claims {
-			for i, v := range c.Volumes {
-				if v.Name == w.claims[claim].Volume && p.Node != "" && d.roll(4) > 0 {
-					c.Volumes[i].On = []string{p.Node}
+// A pod that waits, or is of another node, wants nothing here, though it has the same claim.
+func TestStepOfOthersWishes(t *testing.T) {
+	c := attachCluster(func(c *impl.Cluster) {
+		putBound(c, "a", disk("a", "east", false, "n1"))
+		putVolume(c, disk("b", "east", true, "n1"))
+		putVolume(c, impl.Volume{Name: "dc", Size: 1, Zone: "east", Class: "keep", Spent: true, On: []string{"n1"}})
+		c.Nodes[0].Mounts = []string{"da", "db", "dc"}
+		putPod(c, impl.Pod{Name: "p", Claims: []string{"a"}})
+		podOn(c, "q", "n2", "a")
+	})
+	none := func(c *impl.Cluster) { c.Nodes[0].Mounts, c.Nodes[0].Until = nil, 35 }
+	wantStep(t, "others want it", c, "n1", none)
+	c.Nodes[0].Mounts = nil
+	wantStep(t, "others want it, not mounted", c, "n1", none)
+	wantStep(t, "one that wants it, and has it not", c, "n2", func(c *impl.Cluster) { c.Nodes[1].Until = 35 })
+	putOn(&c, "p", "n1")
+	wantStep(t, "now it is wanted", c, "n1", func(c *impl.Cluster) {
+		c.Nodes[0].Mounts, c.Nodes[0].Until = []string{"da"}, 35
+		phases(c, impl.PhRunning, "p")
+	})
+}
+
+// Eight disks, all there are, may be mounted; with one more the cluster is none.
+func TestStepOfEightMounts(t *testing.T) {
+	c := eightCluster()
+	all := wantStep(t, "all eight", c, "n1", func(c *impl.Cluster) {
+		c.Nodes[0].Mounts, c.Nodes[0].Until = nameRow(8), 35
+		phases(c, impl.PhRunning, "p", "q", "r")
+	})
+	wantStep(t, "all eight are mounted", all, "n1", nothingMore)
+	some := impl.DropPod(all, "q").Cluster
+	wantStep(t, "some of eight", some, "n1", func(c *impl.Cluster) {
+		c.Nodes[0].Mounts = slices.Concat(nameRow(8)[:3], nameRow(8)[5:])
+	})
+	nine := changedTo(all, func(c *impl.Cluster) {
+		putBound(c, "z", impl.Volume{Name: "z", Size: 1, Zone: "east", Class: "slow", Single: true})
+	})
+	wantRefused(t, "nine disks", impl.AgentStep(nine, "n1"), impl.ErrForm)
+	nine = changedTo(all, func(c *impl.Cluster) { c.Nodes[0].Mounts = append(c.Nodes[0].Mounts, "z") })
+	wantRefused(t, "nine mounts", impl.AgentStep(nine, "n1"), impl.ErrForm)
+	nine = changedTo(all, func(c *impl.Cluster) { c.Nodes[0].Slots = 7 })
+	wantRefused(t, "a slot less", impl.AgentStep(nine, "n1"), impl.ErrForm)
+}
+
+// Now and Lease together below, at and above MaxTime, with a live lease and without one.
+func TestStepAtTheEndOfTime(t *testing.T) {
+	if impl.Lease != 10 || impl.MaxTime != 1000000 {
+		t.Errorf("Lease and MaxTime: got %d, %d, want 10, 1000000", impl.Lease, impl.MaxTime)
+	}
+	for _, now := range []int64{0, 1, 999989, 999990, 999991, 999999, 1000000} {
+		for _, until := range []int64{0, now, now + 1, now + 10, 1000000} {
+			if until > 1000000 {
+				continue
+			}
+			c := fullCluster(until)
+			c.Now = now
+			wantStep(t, fmt.Sprintf("Until %d at %d", until, now), c, "n1", func(c *impl.Cluster) {
+				c.Nodes[0].Until = min(now+10, 1000000)
+				if until > now {
+					c.Nodes[0].Mounts = []string{"da", "db"}
+					phases(c, impl.PhRunning, "r")
+					return
 				}
-			}
-		}
-	})
-	pick(d, c.Volumes, func(v *impl.Volume) {
-		if d.roll(4) == 0 {
-			v.On = nil
-		}
-	})
-}
-
-// nextMove: any call that a cluster at work may see by now.
-func (d *dice) nextMove() move {
-	switch d.roll(8) {
-	case 0:
-		return killMove(d.odd(d.nodeName()))
-	case 1, 2:
-		return tickMove(int64(d.roll(9)) - int64(d.roll(40)/39)*20)
-	case 3:
-		return d.move()
-	}
-	return stepMove(d.odd(d.nodeName()))
-}
-
-// Promise 10, and what agents do so far, wherever time leads to.
-func TestManySteps(t *testing.T) {
-	d := &dice{521288629}
-	seen := map[string]int{}
-	for range 150 {
-		c := changedTo(placeCluster(), func(c *impl.Cluster) {
-			for _, name := range []string{"c1", "c2", "c4"} {
-				putClaim(c, impl.Claim{Name: name, Size: 3, Class: d.word("slow", "slim", "far"), Single: d.flip()})
-			}
-			for _, name := range []string{"p1", "p2", "p3"} {
-				putPod(c, impl.Pod{Name: name, Cpu: 200, Claims: d.few("c1", "c2", "c4")})
-			}
-		})
-		for step := range 60 {
-			next := deepCopy(c)
-			d.attach(&next)
-			if broken(next) == "" {
-				c = next
-			}
-			c = d.nextMove().check(t, c)
-			var way string
-			c, way = checkPlace(t, c, d.podName())
-			seen[way]++
-			c, way = checkEvict(t, c, d.podName())
-			seen[way]++
-			for _, p := range c.Pods {
-				seen[fmt.Sprintf("phase %d of %d claims", p.Phase, min(len(p.Claims), 1))]++
-			}
-			if d.roll(20) == 0 {
-				pick(d, c.Nodes, func(n *impl.Node) {
-					if n.Dead {
-						n.Dead, n.Mounts, n.Until = false, nil, 0
-					}
-				})
-			}
-			if t.Failed() {
-				t.Fatalf("at step %d", step)
-			}
+				c.Nodes[0].Mounts = nil
+				phases(c, impl.PhPlaced, "p", "q")
+			})
 		}
 	}
-	wantSeen(t, "steps", seen, "placed", "no node", "not pending", "evicted", "grace", "not dead", "pending",
-		"phase 0 of 1 claims", "phase 1 of 1 claims", "phase 2 of 1 claims", "phase 1 of 0 claims", "phase 2 of 0 claims")
+	// At the end of time no lease is live any more, however often its agent steps.
+	c := fullCluster(1000000)
+	c.Now = 1000000
+	for range 3 {
+		c = impl.AgentStep(c, "n1").Cluster
+		wantLive(t, "at the end of time", c, "n1", false)
+		wantRuns(t, "at the end of time", c, "n1")
+	}
 }
 
-// No call changes what it was handed, nor keeps it; its answer is new memory.
-func TestAgentsAreNewMemory(t *testing.T) {
-	moves := []move{stepMove("n1"), stepMove("n2"), stepMove("n9"), killMove("n1"), killMove("n2"), killMove("n9"), tickMove(0), tickMove(7), tickMove(-1)}
-	for _, start := range memoryClusters() {
-		for _, m := range moves {
-			c := roomyCluster(start)
-			before := unfolded(c)
-			out := m.do(c)
-			wantApart(t, m.what, out.Cluster, stretches(c))
-			wantApart(t, m.what+" anew", m.do(c).Cluster, stretches(out.Cluster))
-			if !sameCluster(unfolded(c), before) {
-				t.Fatalf("%s: what was handed in got %s, want %s", m.what, shown(unfolded(c)), shown(before))
-			}
-			want, _ := m.want(start)
-			scribble(c)
-			if !sameCluster(out.Cluster, want) {
-				t.Errorf("%s, then what was handed in was written over: got %s, want %s", m.what, shown(out), shown(want))
-			}
-			c = deepCopy(start)
-			scribble(m.do(c).Cluster)
-			if !sameCluster(c, start) {
-				t.Errorf("%s, then the answer was written over: what was handed in got %s", m.what, shown(c))
-			}
-			m.check(t, c)
-		}
+// An agent's days: it is there, it runs, it is late, it runs anew, it dies, it wakes.
+func TestDaysOfAnAgent(t *testing.T) {
+	c := impl.DeskCluster()
+	for _, add := range []move{
+		claimMove(impl.Claim{Name: "c", Size: 5, Class: "slow", Single: true}),
+		podMove(impl.Pod{Name: "p", Cpu: 1000, Claims: []string{"c"}}),
+		podMove(impl.Pod{Name: "q", Cpu: 1000}),
+		stepMove("n1"),
+	} {
+		c = add.check(t, c)
+	}
+	c = impl.AttachNext(impl.PlacePod(impl.PlacePod(c, "p").Cluster, "q").Cluster).Cluster
+	wantRuns(t, "placed", c, "n1")
+	days := []struct {
+		what string
+		do   move
+		live bool
+		runs []string
+	}{
+		{"it runs", stepMove("n1"), true, []string{"p", "q"}},
+		{"the last moment of its lease", tickMove(9), true, []string{"p", "q"}},
+		{"just in time", stepMove("n1"), true, []string{"p", "q"}},
+		{"its lease is just over", tickMove(10), false, []string{"p", "q"}},
+		{"it is late", stepMove("n1"), true, nil},
+		{"it runs anew", stepMove("n1"), true, []string{"p", "q"}},
+		{"it dies", killMove("n1"), true, nil},
+		{"it wakes, within its old lease", wakeMove("n1"), false, nil},
+		{"it has a lease", stepMove("n1"), true, nil},
+		{"it runs once more", stepMove("n1"), true, []string{"p", "q"}},
+		{"it is very late", tickMove(1000), false, []string{"p", "q"}},
+		{"it is stopped", stepMove("n1"), true, nil},
+	}
+	for _, day := range days {
+		c = day.do.check(t, c)
+		wantLive(t, day.what, c, "n1", day.live)
+		wantRuns(t, day.what, c, "n1", day.runs...)
 	}
 }

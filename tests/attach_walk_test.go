@@ -258,6 +258,20 @@ func (d *dice) mess(c *impl.Cluster) {
 	})
 }
 
+// messed: the cluster as a few such changes make of it; some of those that are not right are given away instead.
+func (d *dice) messed(c impl.Cluster, give func(wrong impl.Cluster)) impl.Cluster {
+	for range 6 {
+		next := deepCopy(c)
+		d.mess(&next)
+		if broken(next) == "" {
+			c = next
+		} else if d.roll(10) == 0 {
+			give(next)
+		}
+	}
+	return c
+}
+
 // messCluster: a right cluster of six nodes, eight disks in all, of which two are wanted by no claim, and eight pods.
 func (d *dice) messCluster() impl.Cluster {
 	c := impl.Cluster{Classes: []impl.Class{{Name: "slow"}}, Now: 25}
@@ -285,15 +299,7 @@ func TestManyAttachings(t *testing.T) {
 	for range 100 {
 		c := d.messCluster()
 		for step := range 60 {
-			for range 6 {
-				next := deepCopy(c)
-				d.mess(&next)
-				if broken(next) == "" {
-					c = next
-				} else if d.roll(10) == 0 {
-					checkAttach(t, next, seen)
-				}
-			}
+			c = d.messed(c, func(wrong impl.Cluster) { checkAttach(t, wrong, seen) })
 			then := settle(t, c, seen)
 			// Now and then things go on from there.
 			if d.roll(3) == 0 {
@@ -309,32 +315,12 @@ func TestManyAttachings(t *testing.T) {
 		"rest: is on", "rest: single elsewhere", "rest: no slot")
 }
 
-// wake: at times, one of the nodes begins anew, if it is dead.
-func (d *dice) wake(c *impl.Cluster) {
-	if d.roll(4) > 0 {
-		return
-	}
-	pick(d, c.Nodes, func(n *impl.Node) {
-		if n.Dead {
-			n.Dead, n.Mounts, n.Until = false, nil, 0
-		}
-	})
-}
-
 // Promise 11 among all else that a cluster at work may see by now.
 func TestAttachingAtWork(t *testing.T) {
 	d := &dice{43219876}
 	seen := map[string]int{}
 	for range 120 {
-		c := changedTo(placeCluster(), func(c *impl.Cluster) {
-			for _, name := range []string{"c1", "c2", "c4"} {
-				putClaim(c, impl.Claim{Name: name, Size: 3, Class: d.word("slow", "slim", "far"), Single: d.flip()})
-			}
-			for _, name := range []string{"p1", "p2", "p3"} {
-				putPod(c, impl.Pod{Name: name, Cpu: 200, Claims: d.few("c1", "c2", "c4")})
-			}
-			c.Nodes[0].Slots, c.Nodes[1].Slots = 1, 2
-		})
+		c := changedTo(d.busyCluster(), func(c *impl.Cluster) { c.Nodes[0].Slots, c.Nodes[1].Slots = 1, 2 })
 		for step := range 60 {
 			c, _ = checkAttach(t, c, seen)
 			c = d.nextMove().check(t, c)
@@ -349,7 +335,6 @@ func TestAttachingAtWork(t *testing.T) {
 				settle(t, c, seen)
 				c = podMove(impl.Pod{Name: name, Cpu: 200, Claims: d.few(namesOf(c.Claims, claimName)...)}).check(t, c)
 			}
-			d.wake(&c)
 			if t.Failed() {
 				t.Fatalf("at step %d", step)
 			}
