@@ -430,6 +430,11 @@ func sharesMemory(part string, whole string) bool {
 	return from >= begin && from < begin+uintptr(len(whole))
 }
 
+// unsafeText: a text that lies in these bytes, and changes with them.
+func unsafeText(bytes []byte) string {
+	return unsafe.String(unsafe.SliceData(bytes), len(bytes))
+}
+
 func TestAnswersAreNewMemory(t *testing.T) {
 	text := sampleText(40)
 	put, sealed := impl.PutText(text), impl.Seal(text)
